@@ -1,0 +1,41 @@
+"""The values of the document's examples, and what the tests share."""
+
+import unittest
+from itertools import product
+
+PAY = (('ann', 'bob'), (('pay', 0, 2),), ())
+SUM = ('sum', ('my', 'pay'), ('=', 0, 0))
+ANN = ('of', 'ann', 'pay')
+BOB = ('of', 'bob', 'pay')
+TOP = (('=', ('of', 'ann', 'pay'), 2), ())
+SCENE = (PAY, ('x', 'y'), (TOP,), 1)
+SUMS = ((0,), (1,), (2,), (3, 4))
+W = tuple(((a,), (b,)) for a in range(3) for b in range(3))
+
+# Three people and two fields, with numbers of both signs.
+TRIO = (('ann', 'bob', 'cid'), (('age', -1, 1), ('pay', 0, 2)), ())
+
+SIXTY = 10 ** 60 - 1
+WRONG_NAMES = ('', 'Ann', 'a1', 'a b', '`', '{', 'a`', '{z', 'abcdefghi', 'a\n', 'A', 'an-n', '_', 0, 1, True, None,
+               ('ann',), ['ann'], ())
+RIGHT_NAMES = ('a', 'z', 'az', 'ann', 'abcdefgh', 'zzzzzzzz', 'my', 'people', 'field', 'rule', 'and', 'of')
+
+
+def worlds_of(house):
+    """All worlds of a house, possible or not, ascending."""
+    rows = list(product(*[range(low, high + 1) for _, low, high in house[1]]))
+    return tuple(product(rows, repeat=len(house[0])))
+
+
+class Case(unittest.TestCase):
+    """A test case that compares kinds, too: True is not 1, and a list is no tuple."""
+
+    def same(self, found, due):
+        self.assertEqual(repr(found), repr(due))
+
+    def raises(self, error, fields, function, *given, **named):
+        """The call raises exactly this error with exactly these fields, in this order."""
+        with self.assertRaises(error) as caught:
+            function(*given, **named)
+        self.assertIs(caught.exception.__class__, error)
+        self.same(list(vars(caught.exception).values()), list(fields))

@@ -1,0 +1,79 @@
+"""The interface: names, arguments, and the files in which they are defined; and the form of the files."""
+
+import ast
+import importlib
+import inspect
+import unittest
+from pathlib import Path
+
+PACKAGE = Path(__file__).resolve().parent.parent / 'mumhouse'
+
+FUNCTIONS = {
+    'kinds': {'is_integer': '(thing)', 'is_number': '(thing)', 'is_name': '(thing)', 'is_names': '(thing)'},
+    'expressions': {'is_number_expression': '(thing)', 'is_condition': '(thing)', 'parts_of': '(expression)',
+                    'lets_ask': '(house, thing)', 'lets_statement': '(house, thing)'},
+    'housechecker': {'lets_house': '(thing)'},
+    'housetexts': {'expression_text': '(expression)', 'house_text': '(house)', 'world_text': '(world)'},
+    'housereadings': {'expression_read': '(text)', 'house_read': '(text)', 'world_read': '(text)'},
+    'groupings': {'all_groupings': '(values)'},
+}
+CLASSES = {
+    'groupings': {'Grouping': {
+        '__init__': '(self, groups)', 'groups': None, 'members': None, '__len__': '(self)', '__contains__': None,
+        '__eq__': None, 'group_of': '(self, value)', 'is_finer': '(self, h)', '__and__': None, '__or__': None,
+        'merged': '(self, i, j)', 'splits': '(self)', 'whole': '(values)', 'one': '(values)'}},
+}
+
+
+def module(name):
+    return importlib.import_module('mumhouse.' + name)
+
+
+class InterfaceTest(unittest.TestCase):
+    def test_functions(self):
+        for name, functions in FUNCTIONS.items():
+            for function, arguments in functions.items():
+                found = getattr(module(name), function)
+                self.assertEqual(found.__module__, 'mumhouse.' + name)
+                self.assertEqual(str(inspect.signature(found)), arguments, function)
+
+    def test_classes(self):
+        for name, classes in CLASSES.items():
+            for made, methods in classes.items():
+                found = getattr(module(name), made)
+                self.assertEqual(found.__module__, 'mumhouse.' + name)
+                for method, arguments in methods.items():
+                    self.assertIn(method, vars(found))
+                    if arguments is not None:
+                        method = vars(found)[method]
+                        method = method.__func__ if isinstance(method, staticmethod) else method
+                        self.assertEqual(str(inspect.signature(method)), arguments)
+
+    def test_generators(self):
+        groupings = module('groupings')
+        self.assertTrue(inspect.isgeneratorfunction(groupings.all_groupings))
+        self.assertTrue(inspect.isgeneratorfunction(groupings.Grouping.splits))
+
+
+class FilesTest(unittest.TestCase):
+    def test_lines_and_characters(self):
+        for path in sorted(PACKAGE.glob('*')):
+            if path.name == '__pycache__':
+                continue
+            self.assertEqual(path.suffix, '.py')
+            text = path.read_text(encoding='ascii')
+            self.assertLessEqual(len(text.split('\n')), 400, path.name)
+            for line in text.split('\n'):
+                self.assertLessEqual(len(line), 120, path.name)
+                self.assertTrue(all(' ' <= letter <= '~' for letter in line), path.name)
+
+    def test_sizes_and_imports(self):
+        for path in sorted(PACKAGE.glob('*.py')):
+            for node in ast.walk(ast.parse(path.read_text())):
+                if isinstance(node, ast.FunctionDef):
+                    self.assertLessEqual(node.end_lineno - node.lineno + 1, 40, node.name)
+                self.assertNotIsInstance(node, ast.Import)
+                if isinstance(node, ast.ImportFrom):
+                    self.assertEqual(node.level, 0)
+                    if not node.module.startswith('mumhouse.'):
+                        self.assertEqual(node.module, 'itertools')

@@ -41,7 +41,8 @@ def is_condition(thing):
 
 def parts_of(expression):
     """Return the pairs (path, part) of all parts of a number or a condition by form, in order."""
-    return tuple(_walk(expression, _kind_of(expression), None)[0])
+    rows, _ = _walk(expression, _kind_of(expression), None)
+    return tuple([(_path(rows, k), rows[k][0]) for k in range(len(rows))])
 
 
 def lets_ask(house, thing):
@@ -54,9 +55,16 @@ def lets_statement(house, thing):
     return _lets(house, thing, CONDITION)
 
 
+def plain_parts(expression):
+    """Return the list of all parts of a number or a condition by form, in order, without their paths."""
+    rows, _ = _walk(expression, _kind_of(expression), None)
+    return [part for part, _, _ in rows]
+
+
 def wrong_path(thing, kind, house):
     """Return the path of the first part that is wrong for the house (None: by form alone), None if all are right."""
-    return _walk(thing, kind, house)[1]
+    rows, wrong = _walk(thing, kind, house)
+    return _path(rows, len(rows) - 1) if wrong else None
 
 
 def kinds_behind(word, kind):
@@ -67,10 +75,10 @@ def kinds_behind(word, kind):
 
 
 def _lets(house, thing, kind):
-    pairs, wrong = _walk(thing, kind, house)
-    if wrong is not None:
-        raise UnfitExpression(wrong)
-    return len(pairs)
+    rows, wrong = _walk(thing, kind, house)
+    if wrong:
+        raise UnfitExpression(_path(rows, len(rows) - 1))
+    return len(rows)
 
 
 def _kind_of(expression):
@@ -80,21 +88,35 @@ def _kind_of(expression):
 
 
 def _walk(thing, kind, house):
-    """Return the pairs (path, part) before the first wrong part, and the path of that one or None."""
-    pairs = []
+    """Return rows for all parts in order, or up to the first wrong one, and whether there is a wrong one.
+
+    A row is (part, above, k): the part is element k of the one whose row has the index above.
+    """
+    rows = []
     # A list of what is to come in place of calls within calls: an expression may be very deep.
-    coming = [((), thing, kind, False)]
+    coming = [(thing, 0, 0, kind, False)]
     while coming:
-        path, part, due, counted = coming.pop()
+        part, above, k, due, counted = coming.pop()
+        rows.append((part, above, k))
         kinds = _kinds_in(part, due)
         if kinds is None or not _fits(part, house, counted):
-            return pairs, path
-        pairs.append((path, part))
+            return rows, True
+        at = len(rows) - 1
         within = counted or _counts(part)
-        for k in reversed(range(len(kinds))):
-            if kinds[k] != NAME:
-                coming.append(((*path, k + 1), part[k + 1], kinds[k], within))
-    return pairs, None
+        for j in reversed(range(len(kinds))):
+            if kinds[j] != NAME:
+                coming.append((part[j + 1], at, j + 1, kinds[j], within))
+    return rows, False
+
+
+def _path(rows, at):
+    """Return the path of the part whose row has this index."""
+    steps = []
+    while at > 0:
+        _, above, k = rows[at]
+        steps.append(k)
+        at = above
+    return tuple(steps[::-1])
 
 
 def _kinds_in(part, kind):

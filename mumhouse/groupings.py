@@ -137,9 +137,10 @@ def _joined(groups, others):
         for value in other:
             roots[_root(roots, homes[value])] = first
     found = {}
+    # The values ascend, so the groups are found in the order of their least values.
     for value in sorted(list(homes)):
         found.setdefault(_root(roots, homes[value]), []).append(value)
-    return tuple(sorted([tuple(found[key]) for key in found]))
+    return tuple([tuple(found[key]) for key in found])
 
 
 def _root(roots, k):

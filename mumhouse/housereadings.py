@@ -25,10 +25,7 @@ def house_read(text):
 
 def world_read(text):
     """Return the nonempty tuple of nonempty tuples of integers that a text writes, or raise InvalidText."""
-    line = Line(text, 0)
-    rows = line.take_rows()
-    line.finish()
-    return rows
+    return Line(text, 0).take_rows()
 
 
 def line_at(lines, k):

@@ -1,12 +1,12 @@
 """Expressions, houses and worlds written as texts."""
 
-from mumhouse.expressions import parts_of
+from mumhouse.expressions import plain_parts
 from mumhouse.kinds import is_integer
 
 
 def expression_text(expression):
     """Return the words of a number or a condition by form, with single spaces between."""
-    return " ".join([_head(part) for _, part in parts_of(expression)])
+    return " ".join([_head(part) for part in plain_parts(expression)])
 
 
 def house_text(house):

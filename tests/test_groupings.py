@@ -196,6 +196,13 @@ class SplitsTest(Case):
                     if refines(each, groups) and each != groups:
                         self.assertTrue(any(refines(each, split.groups) for split in splits))
 
+    def test_several_large_groups(self):
+        for groups in (((0, 2, 4), (1, 3, 5)), ((0, 4, 6, 8), (1,), (2, 3, 5, 7), (9, 10, 11)), ((0, 1, 2), (3, 4, 5), (6, 7))):
+            found = [split.groups for split in Grouping(groups).splits()]
+            self.same(found, sorted(found))
+            self.same(len(set(found)), sum(2 ** (len(group) - 1) - 1 for group in groups))
+            self.assertTrue(all(refines(each, groups) and len(each) == len(groups) + 1 for each in found))
+
     def test_two_generators_at_once(self):
         g = Grouping(((0, 3), (1, 2, 4)))
         due = [split.groups for split in g.splits()]

@@ -12,7 +12,6 @@ INTEGERS = ('0', '1', '-1', '10', '-10', '7', str(SIXTY), str(-SIXTY), '1' + '0'
 NO_INTEGERS = ('', '-', '+1', '00', '01', '-0', '-00', '-01', '--1', '1-', '1.0', ' ', '1\n', '\n1', '\n', 'x', 'True', '1_0',
                '0x1', '1,2', '1;2', str(10 ** 60), str(-10 ** 60), '0' * 61, '1e3')
 NO_NAMES = ('', 'Ann', 'a1', '`', '{', 'abcdefghi', 'ann\n', '\nann', '1', '-', 'a,b')
-WORD_LENGTHS = (0, 1, 2, 3)
 
 
 class ReadingCase(Case):
@@ -35,6 +34,10 @@ class ExpressionTest(ReadingCase):
                 self.wrong(expression_read, f'* 1 {text}', 2)
         self.wrong(expression_read, '-', 1)
         self.wrong(expression_read, ' ', 0)
+
+    def test_digits_of_other_alphabets(self):
+        for text in ('\u00b2', '\u0661', '1\u0661', '-\u0661'):
+            self.wrong(expression_read, text, 0)
 
     def test_each_word(self):
         for word in WORDS:

@@ -16,12 +16,31 @@ FUNCTIONS = {
     'housetexts': {'expression_text': '(expression)', 'house_text': '(house)', 'world_text': '(world)'},
     'housereadings': {'expression_read': '(text)', 'house_read': '(text)', 'world_read': '(text)'},
     'groupings': {'all_groupings': '(values)'},
+    'values': {'value_of': '(house, world, ask)', 'is_true': '(house, world, statement)',
+               'values_of': '(house, world, *asks)'},
+    'knowing': {'known': '(house, worlds, statement)', 'values_in': '(house, worlds, ask)',
+                'block': '(house, worlds, ask, value)', 'is_settled': '(house, worlds, ask)',
+                'settled_by': '(house, worlds, asks, ask)', 'fewest_settling': '(house, worlds, asks, ask)'},
+    'settlingpapers': {'settling_paper': '(house, worlds, asks, ask)'},
+    'settlingchecker': {'lets_settling': '(house, worlds, asks, ask, thing)'},
+    'eventtexts': {'event_line': '(event)', 'log_lines': '(log)'},
+    'eventreadings': {'read_event': '(text)', 'read_log': '(lines)'},
 }
 CLASSES = {
     'groupings': {'Grouping': {
         '__init__': '(self, groups)', 'groups': None, 'members': None, '__len__': '(self)', '__contains__': None,
         '__eq__': None, 'group_of': '(self, value)', 'is_finer': '(self, h)', '__and__': None, '__or__': None,
         'merged': '(self, i, j)', 'splits': '(self)', 'whole': '(values)', 'one': '(values)'}},
+    'terms': {
+        'Term': {
+            '__init__': '(self, expression)', 'form': None, '__len__': '(self)', '__eq__': None, '__str__': '(self)',
+            'parts': '(self)', '__call__': '(self, house, world)', '__add__': None, '__sub__': None, '__mul__': None,
+            '__radd__': None, '__rsub__': None, '__rmul__': None, 'least': '(self, u)', 'most': '(self, u)',
+            'less': '(self, u)', 'equals': '(self, u)', 'summed': '(self, c)', 'of': '(person, field)', 'my': '(field)'},
+        'Condition': {
+            '__init__': '(self, expression)', 'form': None, '__len__': '(self)', '__eq__': None, '__str__': '(self)',
+            'parts': '(self)', '__call__': '(self, house, world)', '__and__': None, '__or__': None, '__invert__': None,
+            'counted': '(self)', 'choose': '(self, t, u)'}},
 }
 
 
@@ -53,6 +72,9 @@ class InterfaceTest(unittest.TestCase):
         groupings = module('groupings')
         self.assertTrue(inspect.isgeneratorfunction(groupings.all_groupings))
         self.assertTrue(inspect.isgeneratorfunction(groupings.Grouping.splits))
+        terms = module('terms')
+        self.assertTrue(inspect.isgeneratorfunction(terms.Term.parts))
+        self.assertTrue(inspect.isgeneratorfunction(terms.Condition.parts))
 
 
 class FilesTest(unittest.TestCase):

@@ -1,0 +1,75 @@
+"""What is known of statements and asks where some worlds are possible."""
+
+from itertools import combinations
+
+from mumhouse.expressions import lets_ask, lets_statement
+from mumhouse.kinds import is_integer
+from mumhouse.values import is_true, value_of, values_of
+
+
+def known(house, worlds, statement):
+    """Return True or False if the statement is so in all of the worlds, otherwise None."""
+    lets_statement(house, statement)
+    truths = [is_true(house, world, statement) for world in worlds]
+    if all(truths):
+        return True
+    return None if any(truths) else False
+
+
+def values_in(house, worlds, ask):
+    """Return the set of the values that the ask has in the worlds."""
+    lets_ask(house, ask)
+    return tuple(sorted(set([value_of(house, world, ask) for world in worlds])))
+
+
+def block(house, worlds, ask, value):
+    """Return the set of the worlds in which the ask has this value, which may be any value."""
+    lets_ask(house, ask)
+    if not is_integer(value):
+        return ()
+    return tuple([world for world in worlds if value_of(house, world, ask) == value])
+
+
+def is_settled(house, worlds, ask):
+    """Return whether the ask has only one value in the worlds."""
+    return len(values_in(house, worlds, ask)) == 1
+
+
+def settled_by(house, worlds, asks, ask):
+    """Return whether the ask has the same value wherever each of the asks has."""
+    lets_asks(house, asks, ask)
+    answers = [values_of(house, world, *asks) for world in worlds]
+    return _settles(answers, [value_of(house, world, ask) for world in worlds])
+
+
+def fewest_settling(house, worlds, asks, ask):
+    """Return all sets of indexes of asks that settle the ask while no proper part of them does."""
+    lets_asks(house, asks, ask)
+    answers = [values_of(house, world, *asks) for world in worlds]
+    values = [value_of(house, world, ask) for world in worlds]
+    found = []
+    for size in range(len(asks) + 1):
+        for picks in combinations(range(len(asks)), size):
+            if not any([_contains(picks, fewer) for fewer in found]):
+                if _settles([tuple([row[k] for k in picks]) for row in answers], values):
+                    found.append(picks)
+    return tuple(sorted(found))
+
+
+def lets_asks(house, asks, ask):
+    """Raise UnfitExpression for the first of asks, and then ask, that is no ask of the house."""
+    for each in (*asks, ask):
+        lets_ask(house, each)
+
+
+def _settles(answers, values):
+    """Return whether equal answers stand beside equal values only."""
+    first = {}
+    for answer, value in zip(answers, values):
+        if first.setdefault(answer, value) != value:
+            return False
+    return True
+
+
+def _contains(picks, fewer):
+    return all([k in picks for k in fewer])

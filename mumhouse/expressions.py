@@ -58,7 +58,7 @@ def lets_statement(house, thing):
 def plain_parts(expression):
     """Return the list of all parts of a number or a condition by form, in order, without their paths."""
     rows, _ = _walk(expression, _kind_of(expression), None)
-    return [part for part, _, _ in rows]
+    return [row[0] for row in rows]
 
 
 def wrong_path(thing, kind, house):

@@ -4,9 +4,16 @@ from mumhouse.errors import InvalidGrouping
 from mumhouse.kinds import is_among, is_integer, is_number, is_rising
 
 
+def is_group(thing):
+    """Return whether any value is a nonempty set of integers."""
+    if not isinstance(thing, tuple) or len(thing) == 0:
+        return False
+    return all([is_integer(value) for value in thing]) and is_rising(thing)
+
+
 def is_groups(thing):
     """Return whether any value is an ascending tuple of nonempty sets of integers, no integer in two of them."""
-    if not isinstance(thing, tuple) or not all([_is_group(group) for group in thing]):
+    if not isinstance(thing, tuple) or not all([is_group(group) for group in thing]):
         return False
     values = [value for group in thing for value in group]
     return is_rising(thing) and len(set(values)) == len(values)
@@ -110,12 +117,6 @@ class Grouping:
         """Return the Grouping with one group of all values, without a group if there are none."""
         group = tuple(sorted(set(values)))
         return Grouping((group,) if group else ())
-
-
-def _is_group(thing):
-    if not isinstance(thing, tuple) or len(thing) == 0:
-        return False
-    return all([is_integer(value) for value in thing]) and is_rising(thing)
 
 
 def _met(groups, others):

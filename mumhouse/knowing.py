@@ -4,13 +4,13 @@ from itertools import combinations
 
 from mumhouse.expressions import lets_ask, lets_statement
 from mumhouse.kinds import is_integer
-from mumhouse.values import is_true, value_of, values_of
+from mumhouse.values import values_over
 
 
 def known(house, worlds, statement):
     """Return True or False if the statement is so in all of the worlds, otherwise None."""
     lets_statement(house, statement)
-    truths = [is_true(house, world, statement) for world in worlds]
+    truths = values_over(house, worlds, statement)
     if all(truths):
         return True
     return None if any(truths) else False
@@ -19,7 +19,7 @@ def known(house, worlds, statement):
 def values_in(house, worlds, ask):
     """Return the set of the values that the ask has in the worlds."""
     lets_ask(house, ask)
-    return tuple(sorted(set([value_of(house, world, ask) for world in worlds])))
+    return tuple(sorted(set(values_over(house, worlds, ask))))
 
 
 def block(house, worlds, ask, value):
@@ -27,7 +27,7 @@ def block(house, worlds, ask, value):
     lets_ask(house, ask)
     if not is_integer(value):
         return ()
-    return tuple([world for world in worlds if value_of(house, world, ask) == value])
+    return tuple([world for world, found in zip(worlds, values_over(house, worlds, ask)) if found == value])
 
 
 def is_settled(house, worlds, ask):
@@ -38,20 +38,19 @@ def is_settled(house, worlds, ask):
 def settled_by(house, worlds, asks, ask):
     """Return whether the ask has the same value wherever each of the asks has."""
     lets_asks(house, asks, ask)
-    answers = [values_of(house, world, *asks) for world in worlds]
-    return _settles(answers, [value_of(house, world, ask) for world in worlds])
+    return _settles([values_over(house, worlds, each) for each in asks], values_over(house, worlds, ask))
 
 
 def fewest_settling(house, worlds, asks, ask):
     """Return all sets of indexes of asks that settle the ask while no proper part of them does."""
     lets_asks(house, asks, ask)
-    answers = [values_of(house, world, *asks) for world in worlds]
-    values = [value_of(house, world, ask) for world in worlds]
+    columns = [values_over(house, worlds, each) for each in asks]
+    values = values_over(house, worlds, ask)
     found = []
     for size in range(len(asks) + 1):
         for picks in combinations(range(len(asks)), size):
             if not any([_contains(picks, fewer) for fewer in found]):
-                if _settles([tuple([row[k] for k in picks]) for row in answers], values):
+                if _settles([columns[k] for k in picks], values):
                     found.append(picks)
     return tuple(sorted(found))
 
@@ -62,11 +61,11 @@ def lets_asks(house, asks, ask):
         lets_ask(house, each)
 
 
-def _settles(answers, values):
-    """Return whether equal answers stand beside equal values only."""
+def _settles(columns, values):
+    """Return whether these columns, all together, are alike only where the values are alike."""
     first = {}
-    for answer, value in zip(answers, values):
-        if first.setdefault(answer, value) != value:
+    for n, value in enumerate(values):
+        if first.setdefault(tuple([column[n] for column in columns]), value) != value:
             return False
     return True
 

@@ -56,12 +56,12 @@ PAIRED = {
 
 def value_of(house, world, ask):
     """Return the value of an ask of the house in a world of it, possible or not."""
-    return _evaluated(house, world, ask)
+    return values_over(house, (world,), ask)[0]
 
 
 def is_true(house, world, statement):
     """Return whether a statement of the house is true in a world of it, possible or not."""
-    return _evaluated(house, world, statement)
+    return values_over(house, (world,), statement)[0]
 
 
 def values_of(house, world, *asks):
@@ -69,15 +69,15 @@ def values_of(house, world, *asks):
     return tuple([value_of(house, world, ask) for ask in asks])
 
 
-def _evaluated(house, world, expression):
-    """Return the value of an expression in which "my" stands only within a "count" or "sum"."""
-    # A part has a column: its value for each person as the one that "my" means. No "my" reaches out of a "count"
-    # or "sum", so their columns have one value all along, and nothing has to be computed twice.
+def values_over(house, worlds, expression):
+    """Return the list of the values that an ask or a statement of the house has in each of some worlds."""
+    # A part has a column: its value in each world for each person as the one that "my" means. No "my" reaches out
+    # of a "count" or "sum", so their columns have one value for all people, and nothing has to be computed twice.
     columns = []
     for part in reversed(plain_parts(expression)):
         given = [columns.pop() for _ in range(_many_parts(part))]
-        columns.append(_column(house, world, part, given))
-    return columns[0][0]
+        columns.append(_column(house, worlds, part, given))
+    return columns[0][::len(house[0])]
 
 
 def _many_parts(part):
@@ -87,25 +87,35 @@ def _many_parts(part):
     return len([item for item in part if not isinstance(item, str)])
 
 
-def _column(house, world, part, given):
+def _column(house, worlds, part, given):
     """Return the column of a part, given those of the parts directly in it."""
+    people = house[0]
     if is_integer(part):
-        return [part] * len(world)
+        return [part] * (len(worlds) * len(people))
     word = part[0]
     if word == "of":
-        return [world[house[0].index(part[1])][_place(house, part[2])]] * len(world)
+        person, place = people.index(part[1]), _place(house, part[2])
+        return [world[person][place] for world in worlds for _ in people]
     if word == "my":
-        return [row[_place(house, part[1])] for row in world]
+        place = _place(house, part[1])
+        return [row[place] for world in worlds for row in world]
     if word == "if":
         return [a if c else b for c, a, b in zip(given[0], given[1], given[2])]
     if word == "count":
-        return [len([c for c in given[0] if c])] * len(world)
+        return _totals(people, [1 if c else 0 for c in given[0]])
     if word == "sum":
-        return [sum([a for a, c in zip(given[0], given[1]) if c])] * len(world)
+        return _totals(people, [a if c else 0 for a, c in zip(given[0], given[1])])
     if word == "not":
         return [not c for c in given[0]]
     action = PAIRED[word]
     return [action(a, b) for a, b in zip(given[0], given[1])]
+
+
+def _totals(people, column):
+    """Return the column of the sums over all people."""
+    many = len(people)
+    totals = [sum(column[at:at + many]) for at in range(0, len(column), many)]
+    return [total for total in totals for _ in people]
 
 
 def _place(house, name):

@@ -12,6 +12,14 @@ SCENE = (PAY, ('x', 'y'), (TOP,), 1)
 SUMS = ((0,), (1,), (2,), (3, 4))
 W = tuple(((a,), (b,)) for a in range(3) for b in range(3))
 
+IS = ('if', ('=', ANN, 1), 1, 0)
+NONE = ('if', ('=', ANN, 0), 1, 0)
+ALWAYS = ('=', 0, 0)
+NEVER = ('<', 0, 0)
+
+# Values of many kinds, none of them an integer.
+ANY = (True, False, None, '', '0', 'a', (), (0,), (True,), [], [0], ((0,),), [[]], ('a',), ((((), 'b'),),))
+
 # Three people and two fields, with numbers of both signs.
 TRIO = (('ann', 'bob', 'cid'), (('age', -1, 1), ('pay', 0, 2)), ())
 

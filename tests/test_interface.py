@@ -21,6 +21,23 @@ FUNCTIONS = {
     'knowing': {'known': '(house, worlds, statement)', 'values_in': '(house, worlds, ask)',
                 'block': '(house, worlds, ask, value)', 'is_settled': '(house, worlds, ask)',
                 'settled_by': '(house, worlds, asks, ask)', 'fewest_settling': '(house, worlds, asks, ask)'},
+    'worlds': {'possible_worlds': '(house)', 'how_many_worlds': '(house)', 'is_world': '(house, thing)',
+               'is_possible': '(house, thing)'},
+    'views': {'worlds_of_group': '(house, worlds, ask, group)', 'partition_by': '(house, worlds, asked)',
+              'worlds_like': '(house, worlds, asked, world)', 'worlds_knowing': '(house, worlds, asked, statement)',
+              'implied_grouping': '(house, worlds, asked, ask)'},
+    'linkpapers': {'link_paper': '(house, worlds, asked, ask, one, other)'},
+    'linkchecker': {'lets_link': '(house, worlds, asked, ask, one, other, thing)'},
+    'mumness': {'is_mum': '(hall)', 'tellings': '(hall)'},
+    'lists': {'best_list': '(hall, asks)', 'best_tree': '(hall, asks)', 'price': '(hall, asks, grouping)'},
+    'mumpapers': {'mum_paper': '(hall)'},
+    'mumchecker': {'lets_mum': '(hall, thing)'},
+    'ruling': {'is_mum_aloud': '(hall, ask, grouping)', 'plain_grouping': '(hall, ask)', 'alike_grouping': '(hall, ask)',
+               'plain_leaks': '(hall, ask)'},
+    'finest': {'finest_groupings': '(hall, ask)'},
+    'breaking': {'breaks_plain': '(hall, asks)'},
+    'breakpapers': {'break_paper': '(hall, asks)'},
+    'breakchecker': {'lets_break': '(hall, asks, thing)'},
     'settlingpapers': {'settling_paper': '(house, worlds, asks, ask)'},
     'settlingchecker': {'lets_settling': '(house, worlds, asks, ask, thing)'},
     'eventtexts': {'event_line': '(event)', 'log_lines': '(log)'},
@@ -31,6 +48,15 @@ CLASSES = {
         '__init__': '(self, groups)', 'groups': None, 'members': None, '__len__': '(self)', '__contains__': None,
         '__eq__': None, 'group_of': '(self, value)', 'is_finer': '(self, h)', '__and__': None, '__or__': None,
         'merged': '(self, i, j)', 'splits': '(self)', 'whole': '(values)', 'one': '(values)'}},
+    'houseclasses': {'House': {
+        '__init__': '(self, people, fields, *rules)', 'people': None, 'fields': None, 'rules': None, 'form': None,
+        '__contains__': None, '__len__': '(self)', '__eq__': None, '__str__': '(self)', 'with_rule': '(self, rule)',
+        'numbers': '(self, field)', 'parsed': '(cls, text)'}},
+    'halls': {'Hall': {
+        '__init__': '(self, scene, worlds=None, permits=())', 'scene': None, 'worlds': None, 'permits': None,
+        '__len__': '(self)', '__contains__': None, '__eq__': None, 'fews': '(self)', 'view': '(self, few, world)',
+        '__call__': '(self, ask, group)', 'with_permit': '(self, asker, ask, grouping)',
+        'with_secret': '(self, statement, *knowers)', 'without_secret': '(self, k)', 'with_few': '(self, few)'}},
     'terms': {
         'Term': {
             '__init__': '(self, expression)', 'form': None, '__len__': '(self)', '__eq__': None, '__str__': '(self)',
@@ -65,7 +91,7 @@ class InterfaceTest(unittest.TestCase):
                     self.assertIn(method, vars(found))
                     if arguments is not None:
                         method = vars(found)[method]
-                        method = method.__func__ if isinstance(method, staticmethod) else method
+                        method = method.__func__ if isinstance(method, (staticmethod, classmethod)) else method
                         self.assertEqual(str(inspect.signature(method)), arguments)
 
     def test_generators(self):
@@ -75,6 +101,9 @@ class InterfaceTest(unittest.TestCase):
         terms = module('terms')
         self.assertTrue(inspect.isgeneratorfunction(terms.Term.parts))
         self.assertTrue(inspect.isgeneratorfunction(terms.Condition.parts))
+        self.assertTrue(inspect.isgeneratorfunction(module('worlds').possible_worlds))
+        self.assertTrue(inspect.isgeneratorfunction(module('houseclasses').House.numbers))
+        self.assertTrue(inspect.isgeneratorfunction(module('halls').Hall.fews))
 
 
 class FilesTest(unittest.TestCase):

@@ -55,7 +55,7 @@ class Hall:
         """Yield every few, those with fewer askers first, equally many ascending."""
         _, askers, _, most = self._scene
         for size in range(min(most, len(askers)) + 1):
-            yield from _picks(askers, size)
+            yield from _picks(list(askers), size)
 
     def seen_by(self, few):
         """Return for each world the tuple of the indexes of the groups in which it is for the permits of a few."""
@@ -190,6 +190,6 @@ def _are_askers(thing, askers):
     return is_names(thing) and all([name in askers for name in thing])
 
 
-def _picks(askers, size):
-    """Return the list of all sets of so many askers, ascending."""
-    return list(combinations(askers, size))
+def _picks(names, size):
+    """Return the list of all sets of so many of the names, ascending."""
+    return list(combinations(names, size))

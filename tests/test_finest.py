@@ -51,8 +51,7 @@ class FinestTest(Case):
         self.same(sizes, {1, 2, 3, 4, 5})
 
     def test_by_name(self):
-        self.same(finest_groupings(ask=IS, hall=HALL), (((0,), (1,)),) if reference.mum_aloud(
-            reference.plain(HALL), IS, ((0,), (1,))) else (((0, 1),),))
+        self.same(finest_groupings(ask=IS, hall=HALL), (((0,), (1,)),))
 
     def test_unfit(self):
         for hall in (HALL, NOT_MUM):

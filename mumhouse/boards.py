@@ -40,6 +40,21 @@ class Board:
             self._kept[bits] = not any([bits & view and not bits & false for view, false in self._checks])
         return self._kept[bits]
 
+    def told(self, bits):
+        """Return the set of the indexes of the secrets that the hall with these worlds tells to some few."""
+        found = [k for _, k, view in self._dangers if bits & view and not bits & view & self._false[k]]
+        return tuple(sorted(set(found)))
+
+    def keeps_alone(self, asker, parts):
+        """Return whether the hall is mum in which this asker also learns in which of these sets the world is.
+
+        parts has each world in one set.
+        """
+        if not self.keeps(self.full):
+            return False
+        views = [(view, self._false[k]) for few, k, view in self._dangers if asker in few]
+        return not any([view & part and not view & part & false for view, false in views for part in parts])
+
     def blocks(self, ask):
         """Return a dict of the sets of the worlds in which an ask has each of its values."""
         found = {}
@@ -49,7 +64,15 @@ class Board:
 
     def keeps_groups(self, blocks, bits, grouping):
         """Return whether each hall behind a group of an ask with these blocks is mum, in the hall with these worlds."""
-        return all([self.keeps(worlds_behind(blocks, bits, group)) for group in grouping])
+        return all([self.keeps(part) for part in parts_of_groups(blocks, bits, grouping)])
+
+    def parts_by(self, asks):
+        """Return the list of the largest sets of worlds in which each of the asks has one value."""
+        parts = [self.full]
+        for ask in asks:
+            blocks = self.blocks(ask)
+            parts = [part & blocks[value] for part in parts for value in blocks if part & blocks[value]]
+        return parts
 
     def mum_groupings(self, blocks, bits):
         """Return the list of all mum groupings of an ask with these blocks, aloud, in the hall with these worlds."""
@@ -86,6 +109,11 @@ class Board:
 def values_there(blocks, bits):
     """Return the set of the values that an ask with these blocks has in these worlds."""
     return tuple(sorted([value for value in blocks if blocks[value] & bits]))
+
+
+def parts_of_groups(blocks, bits, grouping):
+    """Return the list of those of these worlds that stand behind each group of an ask with these blocks."""
+    return [worlds_behind(blocks, bits, group) for group in grouping]
 
 
 def worlds_behind(blocks, bits, group):

@@ -19,6 +19,32 @@ def is_groups(thing):
     return is_rising(thing) and len(set(values)) == len(values)
 
 
+def is_grouping_of(thing, values):
+    """Return whether any value is a grouping of exactly these values, which are a set."""
+    return is_groups(thing) and tuple(sorted([value for group in thing for value in group])) == values
+
+
+def is_division_of(thing, group):
+    """Return whether any value is a division of a group: a pair of its parts, the least value in the first one."""
+    return is_grouping_of(thing, group) and len(thing) == 2
+
+
+def divisions_of(group):
+    """Return the list of all divisions of a group, ascending; it is empty for a group of one value."""
+    return [_division_by(group, half) for half in _halves(group) if len(half) < len(group)]
+
+
+def divided(groups, k, division):
+    """Return the groups with group k replaced by both parts of a division of it."""
+    return tuple(sorted([*groups[:k], *division, *groups[k + 1:]]))
+
+
+def not_alone(groups):
+    """Return the ascending list of (value, others) for each value that does not stand alone in its group."""
+    rows = [(value, group) for group in groups if len(group) > 1 for value in group]
+    return [(value, tuple([other for other in group if other != value])) for value, group in sorted(rows)]
+
+
 def all_groupings(values):
     """Yield all tuples of groups that are groupings of these values, ascending."""
     # Each stage has the values that were left there, and which of them are in one group with the least one.
@@ -100,12 +126,12 @@ class Grouping:
         # does, and the less the further in front it is; any other half makes it greater.
         for k, group in enumerate(self._groups):
             for cut in range(1, len(group)):
-                yield Grouping(_replaced(self._groups, k, group[:cut]))
+                yield Grouping(divided(self._groups, k, _division_by(group, group[:cut])))
         for k in reversed(range(len(self._groups))):
             group = self._groups[k]
             for at, half in enumerate(_halves(group)):
                 if at >= len(group):
-                    yield Grouping(_replaced(self._groups, k, half))
+                    yield Grouping(divided(self._groups, k, _division_by(group, half)))
 
     @staticmethod
     def whole(values):
@@ -151,10 +177,9 @@ def _root(roots, k):
     return k
 
 
-def _replaced(groups, k, half):
-    """Return the groups with group k divided into this half and the rest."""
-    rest = tuple([value for value in groups[k] if value not in half])
-    return tuple(sorted([*groups[:k], half, rest, *groups[k + 1:]]))
+def _division_by(group, half):
+    """Return the pair of this half and the rest of a group."""
+    return half, tuple([value for value in group if value not in half])
 
 
 def _halves(group):

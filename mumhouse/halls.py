@@ -4,7 +4,7 @@ from itertools import combinations
 
 from mumhouse.errors import InvalidGrouping, InvalidHall, InvalidPaper, UnknownAsker
 from mumhouse.expressions import CONDITION, NUMBER, lets_ask, lets_statement, wrong_path
-from mumhouse.groupings import is_group, is_groups
+from mumhouse.groupings import is_group, is_grouping_of, is_groups
 from mumhouse.housechecker import lets_house
 from mumhouse.kinds import is_among, is_names, is_number, same
 from mumhouse.knowing import values_in
@@ -118,7 +118,7 @@ def lets_grouping(hall, ask, grouping):
     values = values_in(hall.scene[0], hall.worlds, ask)
     if not is_groups(grouping):
         raise InvalidGrouping("shape", -1)
-    if tuple(sorted([value for group in grouping for value in group])) != values:
+    if not is_grouping_of(grouping, values):
         raise InvalidGrouping("values", -1)
 
 

@@ -23,6 +23,16 @@ def is_names(thing):
     return isinstance(thing, tuple) and all([is_name(name) for name in thing]) and is_rising(thing)
 
 
+def is_pair(thing):
+    """Return whether any value is a tuple of two."""
+    return isinstance(thing, tuple) and len(thing) == 2
+
+
+def are_tuples(thing):
+    """Return whether any value is a tuple of tuples."""
+    return isinstance(thing, tuple) and all([isinstance(row, tuple) for row in thing])
+
+
 def is_rising(row):
     """Return whether each item of a row of comparable items is greater than the one before."""
     return all([before < item for before, item in zip(row, row[1:])])

@@ -1,7 +1,7 @@
 """Whether a value is a link paper; the paper is confirmed without searching for another one."""
 
 from mumhouse.errors import InvalidPaper
-from mumhouse.groupings import is_groups
+from mumhouse.groupings import is_grouping_of
 from mumhouse.kinds import is_among
 from mumhouse.knowing import values_in
 from mumhouse.views import looks, partition_by, values_between
@@ -37,7 +37,7 @@ def _check_linked(worlds, row, seen, values, ends):
 
 def _check_apart(grouping, classes, values, ends):
     """classes has the values of the ask in each class."""
-    if not is_groups(grouping) or sorted([value for group in grouping for value in group]) != sorted(set(values)):
+    if not is_grouping_of(grouping, tuple(sorted(set(values)))):
         raise InvalidPaper("grouping", -1)
     if any([ends[0] in group and ends[1] in group for group in grouping]):
         raise InvalidPaper("together", -1)

@@ -17,6 +17,15 @@ def lets_mum(hall, thing):
     return False
 
 
+def is_mum_paper(hall, thing, word):
+    """Return whether any value is a mum paper of the hall with this word, "mum" or "tells"."""
+    try:
+        lets_mum(hall, thing)
+    except InvalidPaper:
+        return False
+    return thing[0] == word
+
+
 def _check_mum(hall, rows):
     board = Board(hall)
     dangers = board.dangers()

@@ -13,3 +13,9 @@ def tellings(hall):
     """Return the ascending tuple of (few, k, world) for each view, world its least, that tells secret k to the few."""
     board = Board(hall)
     return tuple([(few, k, board.least(view)) for few, k, view, false in board.dangers() if not false])
+
+
+def told_secrets(hall):
+    """Return the set of the indexes of the secrets that the hall tells to some few."""
+    board = Board(hall)
+    return board.told(board.full)

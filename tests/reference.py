@@ -7,7 +7,7 @@ from itertools import combinations
 from mumhouse.halls import Hall
 from mumhouse.values import is_true, value_of
 from tests.samples import ANN, BOB, IS, NONE, PAY, SUM, TOP, W
-from tests.test_groupings import partitions
+from tests.test_groupings import partitions, refines
 
 ASKS = (SUM, ANN, BOB, IS, NONE, ('-', ANN, BOB), ('most', ANN, BOB), ('*', ANN, BOB), 7,
         ('count', ('=', ('my', 'pay'), 0)), ('+', ANN, ('*', 2, BOB)))
@@ -79,6 +79,11 @@ def mum_groupings(hall, ask):
     return [grouping for grouping in partitions(values(hall, ask)) if mum_aloud(hall, ask, grouping)]
 
 
+def finest_of(mum):
+    """Those of some groupings than which none of them is finer."""
+    return [some for some in mum if not any(other != some and refines(other, some) for other in mum)]
+
+
 @lru_cache(maxsize=None)
 def best(hall, asks):
     """The greatest number of whole answers in a mum hall."""
@@ -95,6 +100,19 @@ def whole_answers(hall, asks, grouping):
         number += len(there[1]) if len(group) == 1 else 0
         number += best(there, asks[1:])
     return number
+
+
+@lru_cache(maxsize=None)
+def sure(hall, asks):
+    """The number of whole answers that is sure in a mum hall: the least of the greatest of the least of point 50."""
+    return min((max(least_sure(hall, asks, j, grouping) for grouping in mum_groupings(hall, asks[j]))
+                for j in range(len(asks))), default=0)
+
+
+def least_sure(hall, asks, j, grouping):
+    """The number that is sure in a mum hall if ask j is chosen and answered by this grouping."""
+    others = asks[:j] + asks[j + 1:]
+    return min((len(group) == 1) + sure(behind(hall, asks[j], group), others) for group in grouping)
 
 
 class HallMaker:
@@ -131,6 +149,11 @@ class HallMaker:
             if len(found) < 6:
                 given.append((self.random.choice(scene[1]), ask, self.grouping(found, True)))
         return Hall(scene, worlds, tuple(given))
+
+    def asks(self, hall, most, bound):
+        """A tuple of at most so many asks with at most so many values in a hall."""
+        found = [self.ask() for _ in range(self.random.randrange(most + 1))]
+        return tuple(ask for ask in found if len(values(plain(hall), ask)) <= bound)
 
     def mum_hall(self, permits=3):
         while True:

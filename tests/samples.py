@@ -1,7 +1,7 @@
 """The values of the document's examples, and what the tests share."""
 
 import unittest
-from itertools import product
+from itertools import combinations, product
 
 PAY = (('ann', 'bob'), (('pay', 0, 2),), ())
 SUM = ('sum', ('my', 'pay'), ('=', 0, 0))
@@ -33,6 +33,17 @@ def worlds_of(house):
     """All worlds of a house, possible or not, ascending."""
     rows = list(product(*[range(low, high + 1) for _, low, high in house[1]]))
     return tuple(product(rows, repeat=len(house[0])))
+
+
+def divisions(group):
+    """All divisions of a group, as point 44 says it, ascending."""
+    parts = [part for size in range(1, len(group)) for part in combinations(group, size) if group[0] in part]
+    return sorted((part, tuple(value for value in group if value not in part)) for part in parts)
+
+
+def with_item(row, k, item):
+    """A tuple with another element k."""
+    return (*row[:k], item, *row[k + 1:])
 
 
 class Case(unittest.TestCase):

@@ -5,7 +5,6 @@ from mumhouse.finest import finest_groupings
 from mumhouse.halls import Hall
 from tests import reference
 from tests.samples import ALWAYS, ANN, BOB, IS, SCENE, SUM, SUMS, Case
-from tests.test_groupings import refines
 from tests.test_knowing import UNFIT_ASKS
 
 HALL = Hall(SCENE)
@@ -45,7 +44,7 @@ class FinestTest(Case):
                 continue
             sizes.add(len(values))
             mum = reference.mum_groupings(plain, ask)
-            due = tuple(some for some in mum if not any(other != some and refines(other, some) for other in mum))
+            due = tuple(reference.finest_of(mum))
             self.same(finest_groupings(hall, ask), due)
             self.same(due == (), not reference.mum(plain))
         self.same(sizes, {1, 2, 3, 4, 5})

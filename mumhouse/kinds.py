@@ -38,6 +38,11 @@ def is_rising(row):
     return all([before < item for before, item in zip(row, row[1:])])
 
 
+def is_part(row, other):
+    """Return whether each item of a row is one of another row."""
+    return all([item in other for item in row])
+
+
 def same(one, other):
     """Return whether two values are equal, where True is not 1, however deep they are nested."""
     # A list of pairs in place of calls within calls: a form that terms have built may be very deep.

@@ -3,7 +3,7 @@
 from itertools import combinations
 
 from mumhouse.expressions import lets_ask, lets_statement
-from mumhouse.kinds import is_integer
+from mumhouse.kinds import is_integer, is_part
 from mumhouse.values import values_over
 
 
@@ -49,7 +49,7 @@ def fewest_settling(house, worlds, asks, ask):
     found = []
     for size in range(len(asks) + 1):
         for picks in combinations(range(len(asks)), size):
-            if not any([_contains(picks, fewer) for fewer in found]):
+            if not any([is_part(fewer, picks) for fewer in found]):
                 if _settles([columns[k] for k in picks], values):
                     found.append(picks)
     return tuple(sorted(found))
@@ -68,7 +68,3 @@ def _settles(columns, values):
         if first.setdefault(tuple([column[n] for column in columns]), value) != value:
             return False
     return True
-
-
-def _contains(picks, fewer):
-    return all([k in picks for k in fewer])

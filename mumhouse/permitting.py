@@ -7,6 +7,7 @@ from mumhouse.expressions import lets_ask
 from mumhouse.finest import finest_among
 from mumhouse.groupings import Grouping, all_groupings
 from mumhouse.halls import lets_asker, lets_grouping, lets_list
+from mumhouse.kinds import is_part
 from mumhouse.knowing import values_in
 from mumhouse.lists import best_list
 from mumhouse.measures import first_greatest, whole_worlds
@@ -26,8 +27,9 @@ def finest_permits(hall, asker, ask):
     lets_ask(hall.scene[0], ask)
     board = Board(hall)
     blocks = board.blocks(ask)
+    values = values_there(blocks, board.full)
     mum = []
-    for grouping in all_groupings(values_there(blocks, board.full)):
+    for grouping in all_groupings(values):
         if board.keeps_alone(asker, parts_of_groups(blocks, board.full, grouping)):
             mum.append(grouping)
     return finest_among(mum)
@@ -48,14 +50,12 @@ def bearable(hall, asker, asks):
     lets_asker(hall, asker)
     lets_list(hall, asks)
     board = Board(hall)
-    found = []
-    for left_out in range(len(asks) + 1):
-        for picks in combinations(range(len(asks)), len(asks) - left_out):
-            # What is in a greater set that has been found is mum, too, but not greatest.
-            if not any([all([k in greater for k in picks]) for greater in found]):
-                if board.keeps_alone(asker, board.parts_by([asks[k] for k in picks])):
-                    found.append(picks)
-    return tuple(sorted(found))
+    greatest = []
+    for size in range(len(asks) + 1):
+        for picks in combinations(range(len(asks)), size):
+            if board.keeps_alone(asker, board.parts_by([asks[k] for k in picks])):
+                greatest = [*[fewer for fewer in greatest if not is_part(fewer, picks)], picks]
+    return tuple(sorted(greatest))
 
 
 def permit_by_rule(hall, asker, ask, word):

@@ -6,7 +6,7 @@ from itertools import combinations
 
 from mumhouse.halls import Hall
 from mumhouse.values import is_true, value_of
-from tests.samples import ANN, BOB, IS, NONE, PAY, SUM, TOP, W
+from tests.samples import ALWAYS, ANN, BOB, IS, NONE, PAY, SUM, TOP, TRIO, W, worlds_of
 from tests.test_groupings import partitions, refines
 
 ASKS = (SUM, ANN, BOB, IS, NONE, ('-', ANN, BOB), ('most', ANN, BOB), ('*', ANN, BOB), 7,
@@ -113,6 +113,17 @@ def least_sure(hall, asks, j, grouping):
     """The number that is sure in a mum hall if ask j is chosen and answered by this grouping."""
     others = asks[:j] + asks[j + 1:]
     return min((len(group) == 1) + sure(behind(hall, asks[j], group), others) for group in grouping)
+
+
+def limit_hall():
+    """A hall at the limits of point 9: 81 worlds, three askers and secrets, few 3; and asks with four values."""
+    secrets = ((('=', ('of', 'ann', 'pay'), 2), ()), (('=', ('of', 'bob', 'age'), 1), ('x',)),
+               (('<', ('of', 'cid', 'pay'), ('of', 'ann', 'age')), ()))
+    permits = (('x', ('of', 'cid', 'age'), ((-1, 0), (1,))), ('y', ('of', 'bob', 'pay'), ((0,), (1, 2))))
+    pays = ('sum', ('my', 'pay'), ALWAYS)
+    sums = (pays, ('+', pays, ('of', 'ann', 'age')), ('of', 'ann', 'pay'), ('of', 'bob', 'pay'))
+    asks = tuple(('most', 0, ('least', 3, ('-', some, 1))) for some in sums)
+    return Hall((TRIO, ('x', 'y', 'z'), secrets, 3), worlds_of(TRIO)[::9], permits), asks
 
 
 class HallMaker:

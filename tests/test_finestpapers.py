@@ -7,7 +7,8 @@ from mumhouse.finestpapers import finest_paper
 from mumhouse.halls import Hall
 from mumhouse.mumpapers import mum_paper
 from tests import reference
-from tests.samples import ALWAYS, ANN, ANY, BOB, SCENE, SIXTY, SUM, SUMS, W, Case, divisions, with_item
+from tests.samples import (ALWAYS, ANN, ANY, BOB, SCENE, SIXTY, SUM, SUMS, W, WRONG_DIVISIONS, WRONG_VALUES, Case,
+                           divisions, with_item)
 from tests.test_groupings import partitions
 from tests.test_knowing import UNFIT_ASKS
 from tests.test_views import WRONG_SHAPES
@@ -62,7 +63,7 @@ class PaperTest(Case):
             for grouping in WRONG_SHAPES:
                 self.raises(InvalidGrouping, ['shape', -1], finest_paper, hall, ANN, grouping)
                 self.raises(InvalidGrouping, ['shape', -1], lets_finest, hall, ANN, grouping, None)
-            for grouping in ((), ((0,), (1,)), ((0, 3),), (*ALONE, (3,)), ((-1, 0), (1,), (2,)), ((3,), (4,), (5,))):
+            for grouping in WRONG_VALUES:
                 self.raises(InvalidGrouping, ['values', -1], finest_paper, hall, ANN, grouping)
                 self.raises(InvalidGrouping, ['values', -1], lets_finest, hall, ANN, grouping, None)
 
@@ -80,12 +81,15 @@ class ShapeTest(CheckerCase):
     def test_shape(self):
         _, papers, rows = FINEST
         for thing in (*ANY, 0, SIXTY, 'finest', ('finest',), ('finest', papers), ('finest', papers, rows, ()), list(FINEST),
-                      ('Finest', papers, rows), (True, papers, rows), (('finest',), papers, rows), ('tells', papers), ('tells', 4),
+                      ('Finest', papers, rows), (True, papers, rows), (('finest',), papers, rows), ('tells', papers),
+                      ('tells', 4),
                       ('tells', 4, TOLD_FOUR, ()), ['tells', 4, TOLD_FOUR], ('mum', papers), ('finer', papers, rows), HALL,
-                      ('finest', list(papers), rows), ('finest', None, rows), ('finest', '', rows), ('finest', papers, list(rows)),
+                      ('finest', list(papers), rows), ('finest', None, rows), ('finest', '', rows),
+                      ('finest', papers, list(rows)),
                       ('finest', papers, None), ('finest', papers, 0), ('finest', papers, ''), TOLD_FOUR, mum_paper(HALL)):
             self.wrong('shape', -1, thing)
-        for row in (*ANY, 0, [(1, TOLD_FOUR)], ((1,),), ((1, TOLD_FOUR, 0),), ([1, TOLD_FOUR],), (None,), ('ab',), ((1, TOLD_FOUR), 0)):
+        for row in (*ANY, 0, [(1, TOLD_FOUR)], ((1,),), ((1, TOLD_FOUR, 0),), ([1, TOLD_FOUR],), (None,), ('ab',),
+                    ((1, TOLD_FOUR), 0)):
             if row != ():
                 for k in range(4):
                     self.wrong('shape', -1, ('finest', papers, with_item(rows, k, row)))
@@ -102,7 +106,8 @@ class FinestTest(CheckerCase):
         self.same(lets_finest(HALL, SUM, SUMS, FINEST), 'finest')
         self.same(lets_finest(thing=THREE, grouping=((0, 1, 2),), ask=ANN, hall=TRIPLE), 'finest')
         for k, group in enumerate(((0,), (1, 2))):
-            paper = ('finest', (mum_paper(HALL(ANN, (0,))), mum_paper(HALL(ANN, (1, 2)))), ((), ((1, ('tells', (), 0, W[6 + k])),)))
+            paper = ('finest', (mum_paper(HALL(ANN, (0,))), mum_paper(HALL(ANN, (1, 2)))),
+                     ((), ((1, ('tells', (), 0, W[6 + k])),)))
             self.same(lets_finest(HALL, ANN, ((0,), (1, 2)), paper), 'finest')
 
     def test_many(self):
@@ -125,7 +130,8 @@ class FinestTest(CheckerCase):
         self.wrong('group', 0, ('finest', papers[::-1], rows))
         # A paper "tells" that is right is no paper "mum".
         self.wrong('group', 4, ('finest', (*papers[:3], mum_paper(HALL(SUM, (3,))), TOLD_FOUR), ((),) * 5), FIVE)
-        self.wrong('group', 2, ('finest', (*[mum_paper(HALL(ANN, (k,))) for k in range(2)], ('tells', (), 0, W[8])), ((),) * 3), ALONE, ANN)
+        self.wrong('group', 2, ('finest', (*[mum_paper(HALL(ANN, (k,))) for k in range(2)], ('tells', (), 0, W[8])), ((),) * 3),
+                   ALONE, ANN)
 
     def test_divisions(self):
         _, papers, rows = FINEST
@@ -140,8 +146,10 @@ class FinestTest(CheckerCase):
 
     def test_division(self):
         _, papers, rows = FINEST
-        for pair in ((0, TOLD_FOUR), (True, TOLD_FOUR), (None, TOLD_FOUR), (2, TOLD_FOUR), (-1, TOLD_FOUR), ('1', TOLD_FOUR), ((1,), TOLD_FOUR),
-                     (SIXTY, TOLD_FOUR), (1, None), (1, 0), (1, list(TOLD_FOUR)), (1, ('tells', (), 0, W[7])), (1, ('tells', ('x',), 1, W[8])),
+        for pair in ((0, TOLD_FOUR), (True, TOLD_FOUR), (None, TOLD_FOUR), (2, TOLD_FOUR), (-1, TOLD_FOUR), ('1', TOLD_FOUR),
+                     ((1,), TOLD_FOUR),
+                     (SIXTY, TOLD_FOUR), (1, None), (1, 0), (1, list(TOLD_FOUR)), (1, ('tells', (), 0, W[7])),
+                     (1, ('tells', ('x',), 1, W[8])),
                      (1, papers[3]), (1, mum_paper(HALL(SUM, (3,)))), (0, mum_paper(HALL(SUM, (3,)))), (1, ()), (TOLD_FOUR, 1)):
             self.wrong('division', (3, 0), ('finest', papers, ((), (), (), (pair,))))
         self.same(lets_finest(HALL, SUM, SUMS, ('finest', papers, ((), (), (), ((1, ('tells', ('y',), 0, W[8])),)))), 'finest')
@@ -151,14 +159,17 @@ class FinestTest(CheckerCase):
         due = [(0,), (0, 1), (0, 2)]
         self.same([one for one, _ in divisions((0, 1, 2))], due)
         for d in range(3):
-            for pair in ((1 - row[d][0], row[d][1]), (bool(row[d][0]), row[d][1]), row[d - 1], (row[d][0], None), (row[d][0], THREE[1][0])):
+            for pair in ((1 - row[d][0], row[d][1]), (bool(row[d][0]), row[d][1]), row[d - 1], (row[d][0], None),
+                         (row[d][0], THREE[1][0])):
                 self.wrong('division', (0, d), ('finest', THREE[1], (with_item(row, d, pair),)), ((0, 1, 2),), ANN, TRIPLE)
         self.wrong('division', (0, 0), ('finest', THREE[1], (row[::-1],)), ((0, 1, 2),), ANN, TRIPLE)
 
     def test_group_by_group(self):
         _, papers, rows = FINEST
-        bad = [('finest', with_item(papers, 1, None), ((), rows[3], (), rows[3])), ('finest', papers, ((), rows[3], (), ((0, 0),))),
-               ('finest', with_item(papers, 3, None), ((), (), rows[3], ())), ('finest', with_item(papers, 3, None), ((), (), (), ()))]
+        bad = [('finest', with_item(papers, 1, None), ((), rows[3], (), rows[3])),
+               ('finest', papers, ((), rows[3], (), ((0, 0),))),
+               ('finest', with_item(papers, 3, None), ((), (), rows[3], ())),
+               ('finest', with_item(papers, 3, None), ((), (), (), ()))]
         self.wrong('group', 1, bad[0])
         self.wrong('divisions', 1, bad[1])
         self.wrong('divisions', 2, bad[2])
@@ -170,8 +181,10 @@ class FinestTest(CheckerCase):
         grouping = ((0, 2), (1,), (3, 5), (4,))
         right = finest_paper(hall, ask, grouping)
         self.same(right[0], 'finest')
-        self.wrong('division', (0, 0), ('finest', with_item(right[1], 2, None), with_item(right[2], 0, ((0, None),))), grouping, ask, hall)
-        self.wrong('group', 2, ('finest', with_item(right[1], 2, None), with_item(right[2], 2, ((0, None),))), grouping, ask, hall)
+        self.wrong('division', (0, 0), ('finest', with_item(right[1], 2, None), with_item(right[2], 0, ((0, None),))), grouping,
+                   ask, hall)
+        self.wrong('group', 2, ('finest', with_item(right[1], 2, None), with_item(right[2], 2, ((0, None),))), grouping, ask,
+                   hall)
         self.wrong('division', (2, 0), ('finest', right[1], with_item(right[2], 2, ((0, None),))), grouping, ask, hall)
 
 
@@ -187,11 +200,7 @@ class FinerTest(CheckerCase):
             self.wrong('number', -1, with_item(FINER, 1, n), COARSE)
 
     def test_division(self):
-        one, other = FINER[2]
-        for division in (*ANY, 0, (other, one), (one, one), (other, other), (one, ()), ((), (1, 2, 3, 4)), ((1, 2, 3, 4), ()), (one,),
-                         (one, other, ()), (one, other, (5,)), (one, (3,)), (one, (3, 4, 5)), (one, (2, 3, 4)), ((2,), (3, 4)), (one, (4, 3)),
-                         ((2, 1), other), ((1, 1, 2), other), ([1, 2], other), [one, other], ((True, 2), other), (one, None), ((0, 1, 2), other),
-                         ((1,), (2,), (3, 4)), ((1, 2, 3, 4),), ((0,), (1, 2, 3, 4))):
+        for division in (*ANY, *WRONG_DIVISIONS):
             self.wrong('division', -1, with_item(FINER, 2, division), COARSE)
         self.wrong('division', -1, with_item(FINER, 1, 0), COARSE)
         self.wrong('division', -1, ('finer', 0, ((0,), ()), FINER[3]), COARSE)
@@ -231,7 +240,8 @@ class TellsTest(CheckerCase):
         for n in range(4):
             self.wrong('group', -1, ('tells', n, TOLD_FOUR), FIVE)
             self.wrong('group', -1, ('tells', n, mum_paper(HALL(SUM, (n,)))), FIVE)
-        for paper in (*ANY, 0, list(TOLD_FOUR), TOLD_FOUR[:3], ('tells', (), 0, W[7]), ('tells', (), 1, W[8]), ('tells', ('z',), 0, W[8]),
+        for paper in (*ANY, 0, list(TOLD_FOUR), TOLD_FOUR[:3], ('tells', (), 0, W[7]), ('tells', (), 1, W[8]),
+                      ('tells', ('z',), 0, W[8]),
                       ('mum', ()), mum_paper(HALL), ('tells', 4, TOLD_FOUR)):
             self.wrong('group', -1, ('tells', 4, paper), FIVE)
 

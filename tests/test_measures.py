@@ -46,7 +46,8 @@ class MeasuresTest(Case):
     def test_the_least_of_several(self):
         self.same(finest_groupings(HALL, ANN), (((0,), (1, 2)), ((0, 2), (1,))))
         self.measures(HALL, ANN, (2, ((0,), (1, 2))), (2, ((0,), (1, 2))), (3, ((0,), (1, 2))))
-        self.measures(HALL, SUM, (4, ((0,), (1,), (2,), (3, 4))), (2, ((0,), (1,), (2,), (3, 4))), (7, ((0, 4), (1,), (2,), (3,))))
+        self.measures(HALL, SUM, (4, ((0,), (1,), (2,), (3, 4))), (2, ((0,), (1,), (2,), (3, 4))),
+                      (7, ((0, 4), (1,), (2,), (3,))))
 
     def test_whole_answers(self):
         for hall, ask, due in ((HALL, BOB, ALONE), (HALL, 7, ((7,),)), (HALL.without_secret(0), ANN, ALONE)):

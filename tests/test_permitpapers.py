@@ -7,11 +7,11 @@ from mumhouse.permitchecker import lets_permit
 from mumhouse.permitpapers import permit_paper
 from mumhouse.permitting import finest_permits, is_mum_alone
 from tests import reference
-from tests.samples import ANN, ANY, BOB, SCENE, SIXTY, SUM, SUMS, W, Case, divisions, with_item
+from tests.samples import (ANN, ANY, BOB, SCENE, SIXTY, SUM, SUMS, W, WRONG_DIVISIONS, WRONG_VALUES, Case,
+                           divisions, with_item)
 from tests.test_groupings import partitions
 from tests.test_halls import NO_ASKERS
 from tests.test_knowing import UNFIT_ASKS
-from tests.test_permitting import WRONG_VALUES
 from tests.test_views import WRONG_SHAPES
 
 HALL = Hall(SCENE)
@@ -90,10 +90,14 @@ class ShapeTest(CheckerCase):
 
     def test_shape(self):
         _, paper, rows = FINEST
-        for thing in (*ANY, 0, SIXTY, 'finest', ('finest',), ('finest', paper), (*FINEST, ()), list(FINEST), ('Finest', paper, rows),
-                      (True, paper, rows), (('finest',), paper, rows), ('finer', paper, rows), ('tells', paper, rows), ('mum', rows), HALL,
-                      ('finest', paper, list(rows)), ('finest', paper, None), ('finest', paper, ''), ('finest', paper, 0), ('tells',),
-                      ('Tells', TOLD_FOUR), ['tells', TOLD_FOUR], ('finest', TOLD_FOUR), TOLD_FOUR, mum_paper(HALL), ('tells', 4, TOLD_FOUR)):
+        for thing in (*ANY, 0, SIXTY, 'finest', ('finest',), ('finest', paper), (*FINEST, ()), list(FINEST),
+                      ('Finest', paper, rows),
+                      (True, paper, rows), (('finest',), paper, rows), ('finer', paper, rows), ('tells', paper, rows),
+                      ('mum', rows), HALL,
+                      ('finest', paper, list(rows)), ('finest', paper, None), ('finest', paper, ''), ('finest', paper, 0),
+                      ('tells',),
+                      ('Tells', TOLD_FOUR), ['tells', TOLD_FOUR], ('finest', TOLD_FOUR), TOLD_FOUR, mum_paper(HALL),
+                      ('tells', 4, TOLD_FOUR)):
             self.wrong('shape', -1, thing)
         for row in (*ANY, 0, [TOLD_FOUR], 'a'):
             if not isinstance(row, tuple):
@@ -112,12 +116,14 @@ class FinestTest(CheckerCase):
         self.same(lets_permit(HALL, 'x', SUM, SUMS, FINEST), 'finest')
         self.same(lets_permit(thing=THREE, grouping=((0, 1, 2),), ask=BOB, asker='y', hall=TWO), 'finest')
         whole = permit_paper(HALL, 'x', BOB, ALONE)
-        self.same(lets_permit(HALL, 'x', BOB, ALONE, ('finest', mum_paper(HALL.with_permit('x', BOB, ALONE)), ((), (), ()))), 'finest')
+        self.same(lets_permit(HALL, 'x', BOB, ALONE, ('finest', mum_paper(HALL.with_permit('x', BOB, ALONE)), ((), (), ()))),
+                  'finest')
         self.same(whole[2], ((), (), ()))
 
     def test_paper(self):
         _, _, rows = FINEST
-        for paper in (*ANY, 0, TOLD_FOUR, mum_paper(HALL), mum_paper(TWO), list(FINEST[1]), ('mum', ()), ('mum', FINEST[1][1][:-1]),
+        for paper in (*ANY, 0, TOLD_FOUR, mum_paper(HALL), mum_paper(TWO), list(FINEST[1]), ('mum', ()),
+                      ('mum', FINEST[1][1][:-1]),
                       ('mum', FINEST[1][1][::-1]), mum_paper(HALL.with_permit('y', SUM, SUMS)), FINEST):
             self.wrong('paper', -1, ('finest', paper, rows))
         self.wrong('paper', -1, ('finest', TOLD_FOUR, ((),) * 5), FIVE)
@@ -201,11 +207,7 @@ class FinerTest(CheckerCase):
             self.wrong('number', -1, with_item(FINER, 1, n), COARSE)
 
     def test_division(self):
-        one, other = FINER[2]
-        for division in (*ANY, 0, (other, one), (one, one), (other, other), (one, ()), ((), (1, 2, 3, 4)), ((1, 2, 3, 4), ()), (one,),
-                         (one, other, ()), (one, other, (5,)), (one, (3,)), (one, (3, 4, 5)), (one, (2, 3, 4)), ((2,), (3, 4)), (one, (4, 3)),
-                         ((2, 1), other), ((1, 1, 2), other), ([1, 2], other), [one, other], ((True, 2), other), (one, None), ((0, 1, 2), other),
-                         ((1,), (2,), (3, 4)), ((1, 2, 3, 4),), ((0,), (1, 2, 3, 4))):
+        for division in (*ANY, *WRONG_DIVISIONS):
             self.wrong('division', -1, with_item(FINER, 2, division), COARSE)
         self.wrong('division', -1, with_item(FINER, 1, 0), COARSE)
 
@@ -228,8 +230,10 @@ class TellsTest(CheckerCase):
             self.same(lets_permit(HALL, 'y', ANN, ALONE, ('tells', ('tells', ('y',), 0, world))), 'tells')
 
     def test_paper(self):
-        for paper in (*ANY, 0, list(TOLD_FOUR), TOLD_FOUR[:3], ('tells', (), 0, W[8]), ('tells', ('y',), 0, W[8]), ('tells', ('x',), 0, W[7]),
-                      ('tells', ('x',), 1, W[8]), ('tells', ('z',), 0, W[8]), ('mum', ()), FINEST[1], mum_paper(HALL), ('tells', TOLD_FOUR)):
+        for paper in (*ANY, 0, list(TOLD_FOUR), TOLD_FOUR[:3], ('tells', (), 0, W[8]), ('tells', ('y',), 0, W[8]),
+                      ('tells', ('x',), 0, W[7]),
+                      ('tells', ('x',), 1, W[8]), ('tells', ('z',), 0, W[8]), ('mum', ()), FINEST[1], mum_paper(HALL),
+                      ('tells', TOLD_FOUR)):
             self.wrong('paper', -1, ('tells', paper), FIVE)
         self.wrong('paper', -1, ('tells', TOLD_FOUR), SUMS)
         self.wrong('paper', -1, ('tells', FINEST[1]), SUMS)

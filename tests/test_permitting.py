@@ -8,7 +8,7 @@ from mumhouse.lists import best_list
 from mumhouse.mumness import is_mum
 from mumhouse.permitting import bearable, finest_permits, is_mum_alone, permit_costs
 from tests import reference
-from tests.samples import ALWAYS, ANN, BOB, IS, NEVER, NONE, PAY, SCENE, SUM, SUMS, TOP, W, Case
+from tests.samples import ALWAYS, ANN, BOB, IS, NEVER, NONE, PAY, SCENE, SUM, SUMS, TOP, W, WRONG_VALUES, Case
 from tests.test_groupings import partitions
 from tests.test_halls import NO_ASKERS
 from tests.test_knowing import UNFIT_ASKS
@@ -20,7 +20,6 @@ TWO = TOLD.with_few(2)
 NOT_MUM = HALL(SUM, (4,))
 ALONE = ((0,), (1,), (2,))
 FIVE = ((0,), (1,), (2,), (3,), (4,))
-WRONG_VALUES = ((), ((0,), (1,)), ((0, 3),), (*ALONE, (3,)), ((-1, 0), (1,), (2,)), ((3,), (4,), (5,)))
 
 
 def with_permits(hall, *permits):
@@ -123,7 +122,8 @@ class ErrorsTest(Case):
 
 class CostsTest(Case):
     def test_example(self):
-        self.same([permit_costs(HALL, 'x', BOB, ((0,), (1,), (2,)), (SUM,)), permit_costs(HALL, 'x', ANN, ((0,), (1,), (2,)), (SUM,))],
+        self.same([permit_costs(HALL, 'x', BOB, ((0,), (1,), (2,)), (SUM,)),
+                   permit_costs(HALL, 'x', ANN, ((0,), (1,), (2,)), (SUM,))],
                   [5, None])
 
     def test_not_mum_alone(self):

@@ -5,7 +5,7 @@ from mumhouse.halls import Hall
 from mumhouse.lists import best_list
 from mumhouse.sureness import sure_answers
 from tests import reference
-from tests.samples import ALWAYS, ANN, BOB, IS, NONE, PAY, SCENE, SUM, SUMS, TRIO, Case, worlds_of
+from tests.samples import ALWAYS, ANN, BOB, IS, NONE, PAY, SCENE, SUM, SUMS, Case
 from tests.test_knowing import UNFIT_ASKS
 
 HALL = Hall(SCENE)
@@ -15,7 +15,8 @@ ALONE = ((0,), (1,), (2,))
 
 class SureTest(Case):
     def test_example(self):
-        self.same([sure_answers(HALL, (ANN,)), sure_answers(HALL, (BOB,)), sure_answers(HALL, (ANN, BOB)), sure_answers(HALL, (ANN, IS))],
+        self.same([sure_answers(HALL, (ANN,)), sure_answers(HALL, (BOB,)), sure_answers(HALL, (ANN, BOB)),
+                   sure_answers(HALL, (ANN, IS))],
                   [0, 1, 1, 1])
 
     def test_no_asks(self):
@@ -28,7 +29,8 @@ class SureTest(Case):
 
     def test_an_ask_twice(self):
         self.same([sure_answers(HALL, (BOB, BOB)), sure_answers(HALL, (ANN, ANN)), sure_answers(HALL, (7, 7, 7))], [2, 0, 3])
-        self.same([sure_answers(HALL, (BOB, BOB, BOB)), sure_answers(HALL, (IS, IS)), sure_answers(HALL, (IS, BOB, IS))], [3, 2, 3])
+        self.same([sure_answers(HALL, (BOB, BOB, BOB)), sure_answers(HALL, (IS, IS)), sure_answers(HALL, (IS, BOB, IS))],
+                  [3, 2, 3])
 
     def test_not_mum(self):
         for hall in (NOT_MUM, HALL.with_secret(ALWAYS), HALL.with_permit('x', ANN, ALONE)):
@@ -54,12 +56,9 @@ class SureTest(Case):
         self.assertTrue({(1, 0), (1, 1), (2, 0), (2, 1), (2, 2), (3, 1), (3, 3), (2, None)} <= found, found)
 
     def test_the_limits(self):
-        scene = ((*TRIO[:2], ()), ('x', 'y', 'z'), ((('=', ('of', 'ann', 'pay'), 2), ()), (('=', ('of', 'bob', 'age'), 1), ('x',)),
-                                                    (('<', ('of', 'cid', 'pay'), ('of', 'ann', 'age')), ())), 3)
-        hall = Hall(scene, worlds_of(TRIO)[::9], (('x', ('of', 'cid', 'age'), ((-1, 0), (1,))), ('y', ('of', 'bob', 'pay'), ((0,), (1, 2)))))
-        pays = ('sum', ('my', 'pay'), ALWAYS)
-        asks = tuple(('most', 0, ('least', 3, ('-', ask, 1))) for ask in (pays, ('+', pays, ('of', 'ann', 'age')), ('of', 'bob', 'pay')))
-        self.same([sure_answers(hall, asks), sure_answers(hall, asks[2:]), sure_answers(hall, asks[:2])], [1, 1, 0])
+        hall, asks = reference.limit_hall()
+        self.same([sure_answers(hall, asks[:2]), sure_answers(hall, asks[3:]), sure_answers(hall, (*asks[:2], asks[3]))],
+                  [0, 1, 1])
 
     def test_by_name(self):
         self.same(sure_answers(asks=(BOB,), hall=HALL), 1)

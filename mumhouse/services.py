@@ -113,7 +113,9 @@ class Service:
         return len(self._past[1:])
 
     def __eq__(self, other):
-        return isinstance(other, Service) and same(self.log(), other.log())
+        if not isinstance(other, Service):
+            return False
+        return same([row[0] for row in self._past], [row[0] for row in other._past])
 
     def tried(self, *events):
         """Return what is said by each of the events if they are applied in order; nothing changes."""
